@@ -1,0 +1,1 @@
+"""What operations can bring about in cabinets of relays."""
