@@ -74,3 +74,8 @@ def case_for(scheme, wanted):
         if is_so(scheme, state, wanted):
             return cases[state]
     return None
+
+
+def count_of(scheme, wanted):
+    """Return in how many of the states that can be there is all that is wanted."""
+    return len([state for state in states_that_can_be(scheme) if is_so(scheme, state, wanted)])

@@ -46,14 +46,26 @@ def moves_from(scheme, state):
     """Return the states to which one move leads."""
     unsettled = unsettled_relays(scheme, state)
     states = []
-    turned = unsettled
-    while turned > 0:
-        states.append(state ^ turned)
+    chosen = unsettled
+    while chosen > 0:
+        states.append(state ^ chosen)
         # The next lesser number that has none but unsettled relays' bits: so each choice of them comes once.
-        turned = (turned - 1) & unsettled
+        chosen = (chosen - 1) & unsettled
     return states
+
+
+def turned(state, number):
+    """Return the state to which it leads to turn the input of this number."""
+    # Input i is variable i.
+    return state ^ (1 << number)
 
 
 def operations_from(scheme, state):
     """Return the states to which one operation leads."""
-    return [state ^ (1 << variable) for variable in range(scheme.inputs)]
+    return [turned(state, number) for number in range(scheme.inputs)]
+
+
+def lamps_that_draw(scheme, state):
+    """Return for each lamp, in order, whether it draws."""
+    live = live_nodes(scheme, state)
+    return [node in live for node in scheme.lamps]

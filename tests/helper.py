@@ -1,5 +1,6 @@
 """Calls written out, answers taken apart, and a slow second way to find the same answers."""
 
+import functools
 import random
 import re
 
@@ -29,6 +30,18 @@ def reach(c):
 
 def when(c, on=0, off=0, live=(), dead=()):
     return [3, c, on, off, len(live)] + list(live) + [len(dead)] + list(dead)
+
+
+def count(c, on=0, off=0, live=(), dead=()):
+    return [4, c, on, off, len(live)] + list(live) + [len(dead)] + list(dead)
+
+
+def play(c, inputs=()):
+    return [5, c, len(inputs)] + list(inputs)
+
+
+def alike():
+    return [6]
 
 
 def joined(calls):
@@ -110,7 +123,12 @@ class SlowScheme:
             (int(row["low"]), int(row["high"]), row["kind"] == "close", bits[row["name"]])
             for sort, row in rows if sort == 3
         ]
-        self.best = self.best_cases()
+        self.lamps = [int(row["node"]) for sort, row in rows if sort == 2]
+        self.moves = {}
+
+    @functools.cached_property
+    def best(self):
+        return self.best_cases()
 
     def live(self, state):
         nodes = {0}
@@ -154,25 +172,99 @@ class SlowScheme:
     def reach(self):
         return [0] + sorted(self.best)
 
-    def when(self, on=0, off=0, live=(), dead=()):
+    def cases_for(self, on=0, off=0, live=(), dead=()):
+        """The best case of each state in which it is so."""
         cases = []
         for state, case in self.best.items():
             nodes = self.live(state)
             if state & on == on and not state & off and set(live) <= nodes and not set(dead) & nodes:
                 cases.append(case)
+        return cases
+
+    def when(self, **wanted):
+        cases = self.cases_for(**wanted)
         if not cases:
             return [-5]
         operations, steps, states = min(cases)
         return [0, operations] + list(states)
 
+    def count(self, **wanted):
+        return [0, len(self.cases_for(**wanted))]
 
-def chance_text(seed, inputs, relays, nodes, contacts):
+    def moved(self, state):
+        """The states to which one move leads."""
+        if state not in self.moves:
+            self.moves[state] = [other for cost, other in self.steps(state) if not cost]
+        return self.moves[state]
+
+    def may_come(self, states):
+        """What may come of one of these states."""
+        come = set(states)
+        while True:
+            more = come.union(*[self.moved(state) for state in come])
+            if more == come:
+                return come
+            come = more
+
+    def rest(self, state):
+        """Where a state settles, None if it isn't sure."""
+        come = self.may_come([state])
+        if any(other in self.may_come(self.moved(other)) for other in come):
+            return None
+        rests = [other for other in come if not self.moved(other)]
+        return rests[0] if len(rests) == 1 else None
+
+    def play(self, inputs=()):
+        told = [self.rest(0)]
+        for number in inputs:
+            told.append(None if told[-1] is None else self.rest(told[-1] ^ 1 << number))
+        return [-5] if None in told else [0] + told
+
+    def shown(self, state):
+        return [node in self.live(state) for node in self.lamps]
+
+
+def slow_why(first, second, pair):
+    """Why two slow schemes differ where these are their rests, 0 if they don't."""
+    if None in pair:
+        return 2 + pair.index(None)
+    return int(first.shown(pair[0]) != second.shown(pair[1]))
+
+
+def slow_alike(first, second):
+    """The answer of alike for two slow schemes: rows to pairs of rests, mended until nothing is better."""
+    best = {(first.rest(0), second.rest(0)): (0, ())}
+    after = {}
+    changed = True
+    while changed:
+        changed = False
+        for pair in list(best):
+            if pair not in after:
+                go_on = range(0 if slow_why(first, second, pair) else len(first.names))
+                after[pair] = [(first.rest(pair[0] ^ 1 << number), second.rest(pair[1] ^ 1 << number))
+                               for number in go_on]
+            length, row = best[pair]
+            for number, other in enumerate(after[pair]):
+                later = (length + 1, row + (number,))
+                if other not in best or later < best[other]:
+                    best[other] = later
+                    changed = True
+    found = [(rows, slow_why(first, second, pair)) for pair, rows in best.items() if slow_why(first, second, pair)]
+    if not found:
+        return [-5]
+    (length, row), why = min(found)
+    return [0, why] + list(row)
+
+
+def chance_text(seed, inputs, relays, nodes, contacts, lamps=0):
     """The text of a scheme of this size, always the same for a seed."""
     chance = random.Random(seed)
     names = [f"i{number}" for number in range(inputs)] + [f"r{number}" for number in range(relays)]
     text = "".join(f"in i{number}\n" for number in range(inputs))
     for number in range(relays):
         text += f"relay r{number} at {chance.randint(1, nodes)}\n"
+    for number in range(lamps):
+        text += f"lamp l{number} at {chance.randint(1, nodes)}\n"
     for number in range(contacts if names else 0):
         low, high = sorted(chance.sample(range(nodes + 1), 2))
         text += f"{chance.choice(['open', 'close'])} {chance.choice(names)} {low} {high}\n"

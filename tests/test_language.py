@@ -117,6 +117,37 @@ class Language(unittest.TestCase):
                 for alias in node.names:
                     self.assertIn(alias.name, at_top, place)
 
+    def test_no_two_files_draw_from_one_another(self):
+        drawn = {name: {f"{node.module.split('.')[1]}.py" for node in tree.body if isinstance(node, ast.ImportFrom)}
+                 for name, tree in self.trees.items()}
+        done = set()
+        while done != set(drawn):
+            free = {name for name in drawn if name not in done and drawn[name] <= done}
+            self.assertNotEqual(free, set(), f"{sorted(set(drawn) - done)}")
+            done |= free
+
+    def test_no_local_is_called_like_an_import_or_a_class(self):
+        for name, tree in self.trees.items():
+            outer = {node.name for node in tree.body if isinstance(node, ast.ClassDef)}
+            for node in tree.body:
+                if isinstance(node, ast.ImportFrom):
+                    outer |= {alias.name for alias in node.names}
+            for function in [node for node in ast.walk(tree) if isinstance(node, ast.FunctionDef)]:
+                inner = {node.arg for node in ast.walk(function) if isinstance(node, ast.arg)}
+                inner |= {node.id for node in ast.walk(function)
+                          if isinstance(node, ast.Name) and isinstance(node.ctx, ast.Store)}
+                self.assertEqual(inner & outer, set(), f"{name}:{function.lineno}")
+
+    def test_no_name_is_a_method_here_and_a_value_there(self):
+        methods = set()
+        values = set()
+        for place, node in self.nodes():
+            if isinstance(node, ast.ClassDef):
+                methods |= {item.name for item in node.body if isinstance(item, ast.FunctionDef)}
+            if isinstance(node, ast.Attribute) and isinstance(node.ctx, ast.Store):
+                values.add(node.attr)
+        self.assertEqual(methods & values, set())
+
 
 if __name__ == "__main__":
     unittest.main()
